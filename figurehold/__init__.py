@@ -1,0 +1,1 @@
+"""Figurehold: claims about all figures of a construction."""
