@@ -4,12 +4,14 @@ from figurehold.errors import BadStep, BadValue, Impossible, TooMany
 from figurehold.fields import Fields
 from figurehold.kinds import is_name, is_sequence
 from figurehold.making import made
+from figurehold.rings import Tables
 from figurehold.steps import is_formed, new_unknowns, wrong_behind_name
 
 MOST_POINTS = 12
 MOST_UNKNOWNS = 8
-# Above all exponents of triples: a W stays the same where all points are moved alike,
-# and such a polynomial of so high a degree has far more terms than are handed in.
+# Above all exponents of triples and of claims: a W stays the same where all points are
+# moved alike, and such a polynomial of so high a degree has far more terms than are
+# handed in.
 RADIX = 20011
 
 
@@ -32,7 +34,7 @@ class Construction:
         # Newer unknowns have higher digits, so that the tables of elder points stay right.
         fields = Fields(unknowns, RADIX)
         tables = {name: {fields.key(((name, 1),)): 1} for name in unknowns}
-        triple = made(step, self._triples, tables)
+        triple = made(Tables(), step, self._triples, tables)
         if not triple[2]:
             raise Impossible(step[1])
         self._steps.append(step)
@@ -61,6 +63,18 @@ class Construction:
     def unknowns(self):
         """The unknowns, in the sequence of steps."""
         return tuple(self._unknowns)
+
+    def has(self, point):
+        """Whether it is the name of a point."""
+        return isinstance(point, str) and point in self._triples
+
+    def tables(self):
+        """By the points: their triples as tables, in the fields of fields()."""
+        return dict(self._triples)
+
+    def fields(self):
+        """The fields of the tables."""
+        return Fields(self._unknowns, RADIX)
 
     def copy(self):
         """A construction of its own with the same steps."""

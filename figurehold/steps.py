@@ -53,3 +53,15 @@ def elders(step):
 def new_unknowns(step):
     """The unknowns that a step brings."""
     return tuple([f"{letter}_{step[1]}" for letter in UNKNOWNS.get(step[0], "")])
+
+
+def needed(steps, points):
+    """The steps of these points, of those that they name, and so on, in their sequence."""
+    asked = {point: True for point in points}
+    found = []
+    for step in reversed(steps):
+        if step[1] in asked:
+            found.append(step)
+            for point in elders(step):
+                asked[point] = True
+    return tuple(reversed(found))
