@@ -26,4 +26,4 @@ def is_figure(construction, values):
 
 def first_figure(construction):
     """The first figure in whole numbers."""
-    return first_values(construction, None)
+    return first_values((construction.steps(),), None)

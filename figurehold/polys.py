@@ -1,10 +1,10 @@
 """Polynomials with integer coefficients: tuples of pairs (monomial, coefficient)."""
 
 from figurehold.errors import BadValue, NothingThere, TooMany
-from figurehold.fields import Fields
 from figurehold.kinds import is_figures, is_variable
 from figurehold.ratios import lowest
-from figurehold.tables import minus, number, plus, raised, times, times_at_most
+from figurehold.replacing import degrees, greatest_exponent, put_table, roomy_fields
+from figurehold.tables import minus, number, plus, raised, times_at_most
 
 MOST_TERMS = 2000
 MOST_FIGURES = 200
@@ -36,7 +36,7 @@ def less(p, q):
 
 def multiplied(p, q):
     """The product."""
-    fields = _fields((p, q), _greatest_exponent(p) + _greatest_exponent(q))
+    fields = roomy_fields((p, q), greatest_exponent(p) + greatest_exponent(q))
     product = times_at_most(fields.packed(p), fields.packed(q), MOST_TERMS)
     if product is None:
         raise TooMany("terms")
@@ -45,46 +45,39 @@ def multiplied(p, q):
 
 def power(p, k):
     """p to the power of a number k."""
-    fields = _fields((p,), _greatest_exponent(p) * k)
+    fields = roomy_fields((p,), greatest_exponent(p) * k)
     return _told(raised(fields.packed(p), k), fields)
 
 
 def variables(p):
     """The variables of p, rising."""
-    return tuple(sorted(_degrees(p)))
+    return tuple(sorted(degrees(p)))
 
 
 def degree_in(p, variable):
     """The greatest exponent of the variable, 0 if it is not there."""
-    return _degrees(p).get(variable, 0)
+    return degrees(p).get(variable, 0)
 
 
 def put_in(p, pairs):
     """p with the variables of the pairs replaced by their polynomials, all at once."""
-    present = {name: True for name in variables(p)}
-    others = {name: other for name, other in pairs if name in present}
-    kept = [((pair,), 1) for monomial, _ in p for pair in monomial if pair[0] not in others]
-    # No exponent of the outcome passes this, whatever the sequence of products is.
-    highest = max([_whole_degree(monomial) for monomial, _ in p], default=0)
-    steepest = max([_greatest_exponent(other) for other in others.values()], default=0)
-    fields = _fields([kept] + list(others.values()), highest * max(1, steepest))
-    tables = {name: fields.packed(other) for name, other in others.items()}
-    return _told(_replaced(_split(p, others, fields), tables), fields)
+    table, fields = put_table(p, pairs)
+    return _told(table, fields)
 
 
 def value(p, pairs):
     """The value of p, a fraction, with these fractions for its variables."""
     known = {name: fraction for name, fraction in pairs}
-    degrees = _degrees(p)
+    highest = degrees(p)
     tops = {}
     bottoms = {}
     whole = 1
-    for name in sorted(degrees):
+    for name in sorted(highest):
         if name not in known:
             raise NothingThere(name)
         n, d = known[name]
-        tops[name] = _powers(n, degrees[name])
-        bottoms[name] = _powers(d, degrees[name])
+        tops[name] = _powers(n, highest[name])
+        bottoms[name] = _powers(d, highest[name])
         whole = whole * bottoms[name][-1]
     total = 0
     for monomial, many in p:
@@ -153,64 +146,6 @@ def _of_monomials(table):
     """The polynomial of coefficients by monomials within the limits."""
     _check_limits(table)
     return tuple(sorted(table.items()))
-
-
-def _fields(polys, greatest):
-    """Fields for all variables of the polynomials, in which exponents up to the greatest find room."""
-    names = sorted({name for p in polys for name in variables(p)})
-    # By their last letters, so that those of p and of q are mixed: times_at_most then stops sooner.
-    names = sorted(names, key=lambda name: name[::-1])
-    return Fields(names, (greatest + 1) | 1)
-
-
-def _degrees(p):
-    """By the variables of p: the greatest exponent of each."""
-    found = {}
-    for monomial, _ in p:
-        for name, exponent in monomial:
-            found[name] = max(exponent, found.get(name, 0))
-    return found
-
-
-def _greatest_exponent(p):
-    """The greatest exponent in p, 0 if there is none."""
-    return max(list(_degrees(p).values()), default=0)
-
-
-def _whole_degree(monomial):
-    """The sum of the exponents of a monomial."""
-    return sum([exponent for _, exponent in monomial])
-
-
-def _split(p, others, fields):
-    """By the replaced part of the monomials: the table of what stands beside it."""
-    groups = {}
-    for monomial, many in p:
-        replaced = tuple([(name, exponent) for name, exponent in monomial if name in others])
-        key = fields.key([pair for pair in monomial if pair[0] not in others])
-        groups.setdefault(replaced, {})[key] = many
-    return groups
-
-
-def _replaced(groups, tables):
-    """The sum of all groups, the variables of their monomials replaced by their tables."""
-    for name in sorted(tables, reverse=True):
-        # From the last variable to the first one, so that each stands at the end in its turn.
-        ending = {}
-        for monomial in list(groups):
-            if monomial and monomial[-1][0] == name:
-                ending.setdefault(monomial[:-1], {})[monomial[-1][1]] = groups.pop(monomial)
-        for ahead, by_exponents in ending.items():
-            groups[ahead] = plus(groups.get(ahead, {}), _nested(by_exponents, tables[name]))
-    return groups.get((), {})
-
-
-def _nested(by_exponents, base):
-    """The sum of the tables, each times the base to the power of its exponent (all from 1 on)."""
-    total = {}
-    for exponent in range(max(by_exponents), 0, -1):
-        total = times(plus(total, by_exponents.get(exponent, {})), base)
-    return total
 
 
 def _powers(base, most):

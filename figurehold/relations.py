@@ -31,8 +31,13 @@ def check_claim(construction, claim):
             raise BadClaim(at)
 
 
+def within(claim):
+    """The claim with pairs (0, point) for its points, as where more constructions are looked at."""
+    return (claim[0],) + tuple([(0, point) for point in claim[1:]])
+
+
 def said(ring, claim, triples):
-    """The tuple of what is 0 where the claim is true."""
+    """The tuple of what is 0 where the claim is true, by the triples of what it has for points."""
     relation = RELATIONS[claim[0]]
     named = [triples[point] for point in claim[1:]]
     return relation(ring, *named)

@@ -7,23 +7,35 @@ from figurehold.steps import new_unknowns
 
 
 class Trial:
-    """Tries figures of a construction in which a claim (if there is one) is not true."""
+    """Tries figures of constructions in which a claim (if there is one) is not true.
 
-    def __init__(self, construction, claim):
-        self.names = construction.unknowns()
+    The lots are the steps of constructions over the same unknowns; the claim is of a word
+    and pairs (number of the lot, point).
+    """
+
+    def __init__(self, lots, claim):
+        self.names = [name for step in lots[0] for name in new_unknowns(step)]
         self.claim = claim
-        # By the numbers of unknowns: the steps that can be made as soon as it is known.
+        # By the numbers of unknowns: the steps, with the numbers of their lots, that can be
+        # made as soon as it is known.
         self.rows = [[] for _ in self.names]
         # The number of the unknown with which all points of the claim are known.
         self.decided = None
-        at = -1
-        for step in construction.steps():
-            at = at + len(new_unknowns(step))
-            self.rows[at].append(step)
-            if claim is not None and step[1] in claim[1:]:
-                self.decided = at
+        for lot, steps in enumerate(lots):
+            self._take(lot, steps)
         self.fractions = {}
+        # By the numbers of lots, and then by points; and by pairs of both.
+        self.places = [{} for _ in lots]
         self.triples = {}
+
+    def _take(self, lot, steps):
+        """Tell with which unknowns these steps can be made."""
+        at = -1
+        for step in steps:
+            at = at + len(new_unknowns(step))
+            self.rows[at].append((lot, step))
+            if self.claim is not None and (lot, step[1]) in self.claim[1:]:
+                self.decided = at if self.decided is None else max(at, self.decided)
 
     def goes_on(self, numbers):
         """Whether all that these first numbers decide is as it is looked for.
@@ -32,22 +44,23 @@ class Trial:
         """
         at = len(numbers) - 1
         self.fractions[self.names[at]] = (numbers[at], 1)
-        for step in self.rows[at]:
-            triple = reckoned(step, self.triples, self.fractions)
+        for lot, step in self.rows[at]:
+            triple = reckoned(step, self.places[lot], self.fractions)
             if triple[2] == 0:
                 return False
-            self.triples[step[1]] = triple
+            self.places[lot][step[1]] = triple
+            self.triples[(lot, step[1])] = triple
         if at != self.decided:
             return True
         return any([part != 0 for part in said(Integers(), self.claim, self.triples)])
 
 
-def first_values(construction, claim):
+def first_values(lots, claim):
     """The first figure in whole numbers in which the claim, if it is not None, is not true.
 
-    There must be one.
+    It is a figure of all constructions; there must be one.
     """
-    trial = Trial(construction, claim)
+    trial = Trial(lots, claim)
     most = 0
     found = _first(trial, [], most)
     while found is None:

@@ -92,20 +92,24 @@ MAKERS = {
 }
 
 
+def triple_of(step, found, unknowns=None):
+    """The triple of a step's point by those of elder points, in polynomials or of these numbers for the unknowns."""
+    word, name = step[:2]
+    given = {
+        letter: variable(f"{letter}_{name}") if unknowns is None else unknowns.get(f"{letter}_{name}")
+        for letter in "txy"
+    }
+    if word == "free":
+        return given["x"], given["y"], Poly((((), 1),)) if unknowns is None else 1
+    members = [found[member] if isinstance(member, str) else member for member in step[2:]]
+    return MAKERS[word](*members, *([given["t"]] if word == "slide" else []))
+
+
 def triples(steps, unknowns=None):
     """By the points: their triples, in polynomials or of these numbers for the unknowns."""
     found = {}
     for step in steps:
-        word, name = step[:2]
-        given = {
-            letter: variable(f"{letter}_{name}") if unknowns is None else unknowns.get(f"{letter}_{name}")
-            for letter in "txy"
-        }
-        if word == "free":
-            found[name] = (given["x"], given["y"], Poly((((), 1),)) if unknowns is None else 1)
-            continue
-        members = [found[member] if isinstance(member, str) else member for member in step[2:]]
-        found[name] = MAKERS[word](*members, *([given["t"]] if word == "slide" else []))
+        found[step[1]] = triple_of(step, found, unknowns)
     return found
 
 
@@ -155,3 +159,33 @@ def said(word, p):
 def claim_polys(steps, claim):
     found = triples(steps)
     return tuple(_poly(p).terms for p in said(claim[0], [found[point] for point in claim[1:]]))
+
+
+def own_triples(points):
+    """By the points: their variables X_p, Y_p, W_p."""
+    return {point: tuple(variable(f"{letter}_{point}") for letter in "XYW") for point in points}
+
+
+def paper_rows(steps, claim):
+    """For each polynomial of the claim: the pairs (what the line begins with, polynomial) of [14]."""
+    own = own_triples([step[1] for step in steps])
+    found = []
+    for p in said(claim[0], [own[point] for point in claim[1:]]):
+        terms = _poly(p).terms
+        rows = [("claim", terms)]
+        for step in reversed(steps):
+            names = [f"{letter}_{step[1]}" for letter in "XYW"]
+            if any(name in names for monomial, _ in terms for name, _ in monomial):
+                triple = triple_of(step, own)
+                terms = plain.put_in(terms, [(name, part.terms) for name, part in zip(names, triple)])
+                rows.append((f"out {step[1]}", terms))
+        found.append(rows)
+    return found
+
+
+def paper_lines(steps, claim):
+    """For each polynomial of the claim: its lines, and whether the last one says 0."""
+    found = []
+    for rows in paper_rows(steps, claim):
+        found.append(([f"{words} {plain.text(terms)}\n" for words, terms in rows], not rows[-1][1]))
+    return found

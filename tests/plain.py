@@ -50,6 +50,19 @@ def put_in(p, pairs):
     return out
 
 
+def text(p):
+    """The text of [5]."""
+    out = ""
+    for monomial, many in p:
+        factors = [name + (f"^{exponent}" if exponent > 1 else "") for name, exponent in monomial]
+        if abs(many) != 1 or not monomial:
+            factors.insert(0, str(abs(many)))
+        out += (" - " if many < 0 else " + ") + "*".join(factors)
+    if not out:
+        return "0"
+    return out[3:] if out.startswith(" + ") else out[1:]
+
+
 def some_poly(source, terms, degree=3, names=VARIABLES, size=9):
     """A polynomial out of a random source, of at most so many terms."""
     out = {}

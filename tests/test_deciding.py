@@ -303,10 +303,10 @@ class VanishingTest(unittest.TestCase):
         looks = []
         kept = vanishing._reckoned
 
-        def reckoned(ring, steps, claim, unknowns):
+        def reckoned(ring, lots, unknowns):
             if isinstance(ring, Residues):
                 looks.append(dict(unknowns))
-            return kept(ring, steps, claim, unknowns)
+            return kept(ring, lots, unknowns)
 
         with mock.patch.object(vanishing, "_reckoned", reckoned):
             answer = vanishing.vanishes(construction, claim)
