@@ -1,4 +1,4 @@
-"""What an integer, a sequence, a name, a variable and a row of figures is."""
+"""What an integer, a sequence, a name, a variable, a row of figures and the text of an integer is."""
 
 LETTERS = "abcdefghijklmnopqrstuvwxyz"
 CAPITALS = "ABCDEFGHIJKLMNOPQRSTUVWXYZ"
@@ -35,3 +35,13 @@ def is_figures(text, most):
     if not 1 <= len(text) <= most or text[0] == "0":
         return False
     return all([sign in FIGURES for sign in text])
+
+
+def read_integer(text, most):
+    """The integer with this text of at most so many figures, or None."""
+    if text == "0":
+        return 0
+    size = text[1:] if text.startswith("-") else text
+    if not is_figures(size, most):
+        return None
+    return int(text)
